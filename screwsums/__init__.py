@@ -1,0 +1,1 @@
+"""Screwsums: sums of motions, and which of them can be undone."""

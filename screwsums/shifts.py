@@ -1,0 +1,33 @@
+"""Shifts and squares, added and multiplied; what is passed is not checked here."""
+
+
+def no_shift(wide):
+    """0s: the shift that has 0 at each place."""
+    return (0,) * wide
+
+
+def added(one, other):
+    """Two shifts added place by place."""
+    return tuple([left + right for left, right in zip(one, other)])
+
+
+def negative(shift):
+    """The shift that added to this one makes 0s."""
+    return tuple([-place for place in shift])
+
+
+def turned(square, shift):
+    """The shift to which a square takes a shift."""
+    return tuple([sum([left * right for left, right in zip(row, shift)]) for row in square])
+
+
+def unit_square(wide):
+    """The square that leaves each shift as it is."""
+    return tuple([tuple([int(row == place) for place in range(wide)]) for row in range(wide)])
+
+
+def squares_joined(one, other):
+    """The square that takes a shift to where one takes what other takes it to."""
+    # Each column of a square is where it takes the shift with a single 1.
+    columns = [turned(one, column) for column in zip(*other)]
+    return tuple(zip(*columns))

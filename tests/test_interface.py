@@ -1,0 +1,63 @@
+"""The names, arguments and places of the interface."""
+
+import ast
+import importlib
+import inspect
+import unittest
+from pathlib import Path
+
+import screwsums
+
+PACKAGE = Path(screwsums.__file__).parent
+
+FUNCTIONS = {
+    "checks": {"is_integer": ["value"], "is_within": ["value", "least", "most"], "are_integers": ["value"],
+               "is_row": ["value", "wide"], "are_rows": ["value", "many", "wide"], "is_by": ["value"],
+               "common_divisor": ["values"], "over": ["number", "by"]},
+    "papers": {"fixed": ["value"]},
+    "faults": {"fault_of": ["wide", "turns", "squares", "gaps"]},
+}
+CLASSES = {
+    "errors": {name: {"__init__": ["self", "part"]} for name in (
+        "BadNumber", "BadFrame", "BadMotion", "BadSum", "BadLot", "BadLead", "BadPaper", "Misfit")}
+    | {"ScrewError": {}, "TooMany": {"__init__": ["self", "what", "most"]}},
+    "papers": {"Paper": {"__init__": ["self", "word", "parts"], "__eq__": ["self", "other"]},
+               "Denial": {"__init__": ["self", "word", "parts"], "__eq__": ["self", "other"]}},
+    "faults": {"Fault": {"__init__": ["self", "why", "at"]}},
+    "frames": {"Frame": {"__init__": ["self", "wide", "turns", "squares", "gaps"], "__eq__": ["self", "other"],
+                         "times": ["self", "one", "other"], "undone": ["self", "motion"],
+                         "power": ["self", "motion", "number"], "product": ["self", "motions"]}},
+}
+
+
+def parameters(function):
+    return list(inspect.signature(function).parameters)
+
+
+def defined(module, kind):
+    tree = ast.parse((PACKAGE / f"{module}.py").read_text(encoding="ascii"))
+    return [node.name for node in tree.body if isinstance(node, kind)]
+
+
+class InterfaceTest(unittest.TestCase):
+    def test_functions(self):
+        for module, functions in FUNCTIONS.items():
+            for name, names in functions.items():
+                with self.subTest(module=module, name=name):
+                    self.assertIn(name, defined(module, ast.FunctionDef))
+                    function = getattr(importlib.import_module(f"screwsums.{module}"), name)
+                    self.assertEqual(parameters(function), names)
+
+    def test_classes_and_their_own_methods(self):
+        for module, classes in CLASSES.items():
+            for name, methods in classes.items():
+                with self.subTest(module=module, name=name):
+                    self.assertIn(name, defined(module, ast.ClassDef))
+                    made = getattr(importlib.import_module(f"screwsums.{module}"), name)
+                    for method, names in methods.items():
+                        self.assertIn(method, vars(made))
+                        self.assertEqual(parameters(vars(made)[method]), names)
+
+
+if __name__ == "__main__":
+    unittest.main()

@@ -13,9 +13,9 @@ class Fault(Denial):
     """The first fault of what is told as a frame: its word, and the first turns that have it."""
 
     def __init__(self, why, at):
-        Denial.__init__(self, "fault", why, at)
-        self.why = fixed(why)
-        self.at = fixed(at)
+        self.word = "fault"
+        self.parts = fixed((why, at))
+        self.why, self.at = self.parts
 
 
 def fault_of(wide, turns, squares, gaps):

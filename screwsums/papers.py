@@ -30,7 +30,8 @@ class Denial(Paper):
     """A paper that says no."""
 
     def __init__(self, word, *parts):
-        Paper.__init__(self, word, *parts)
+        self.word = fixed(word)
+        self.parts = fixed(parts)
 
     def __eq__(self, other):
         return _are_same(self, other)

@@ -1,4 +1,4 @@
-"""Shifts and squares, added and multiplied; what is passed is not checked here."""
+"""Shifts, squares and rows, added and multiplied; what is passed is not checked here."""
 
 
 def no_shift(wide):
@@ -16,9 +16,19 @@ def negative(shift):
     return tuple([-place for place in shift])
 
 
+def along(one, other):
+    """The products of two rows place by place, added up."""
+    return sum([left * right for left, right in zip(one, other)])
+
+
 def turned(square, shift):
-    """The shift to which a square takes a shift."""
-    return tuple([sum([left * right for left, right in zip(row, shift)]) for row in square])
+    """The shift to which a square takes a shift; also what a list of integers makes of rows."""
+    return tuple([along(row, shift) for row in square])
+
+
+def combined(row, rows):
+    """The rows, each times its integer of row, added up place by place."""
+    return tuple([along(row, column) for column in zip(*rows)])
 
 
 def unit_square(wide):

@@ -3,6 +3,8 @@
 SWAP = [[0, 1], [1, 0]]
 NO_ROWS = (None, True, 3, "[[0]]", {0: [0]}, {1, 2}, b"ab", object(), 1.0, iter([[0]]))
 NO_INTEGERS = (None, True, False, 1.0, "1", b"1", [1], (1,), {1: 1}, object())
+NO_FRAMES = (None, True, 0, 2, "bottle", [], (), {}, (0, [[0]], [[]], [[[]]]), object(), object, b"line")
+NAMES = ("line", "plane", "space", "turned line", "half turns", "bottle", "two screws", "third screw", "fourth screw")
 
 
 def unit(wide):

@@ -3,9 +3,10 @@
 import unittest
 from pathlib import Path
 
-from screwsums import checks, errors, faults, frames, papers
+from screwsums import (check_returning, checks, errors, faults, frames, motions, named, papers, returning, squares,
+                       wholes)
 
-MODULES = (errors, checks, papers, faults, frames)
+MODULES = (errors, checks, papers, faults, frames, motions, named, squares, wholes, returning, check_returning)
 EXAMPLES = Path(__file__).with_name("examples.txt")
 
 
@@ -26,7 +27,7 @@ class ExamplesTest(unittest.TestCase):
         for module in MODULES:
             names.update({name: worth for name, worth in vars(module).items() if not name.startswith("_")})
         told = examples()
-        self.assertEqual(len(told), 15)
+        self.assertEqual(len(told), 36)
         for call, expected in told:
             with self.subTest(call=call):
                 self.check(call, expected, names)

@@ -16,6 +16,13 @@ FUNCTIONS = {
                "common_divisor": ["values"], "over": ["number", "by"]},
     "papers": {"fixed": ["value"]},
     "faults": {"fault_of": ["wide", "turns", "squares", "gaps"]},
+    "motions": {"is_motion": ["frame", "value"], "by_turn": ["frame", "motions"],
+                "carried": ["frame", "motion", "shift"]},
+    "named": {"named": ["word"], "beside": ["one", "other"]},
+    "squares": {"row_times": ["row", "rows"], "vanishing": ["wide", "rows"]},
+    "wholes": {"whole": ["rows", "goals"]},
+    "returning": {"comes_back": ["frame"], "returns": ["frame", "motion"]},
+    "check_returning": {"shows_whole": ["rows", "goals", "value"], "shows_back": ["frame", "value"]},
 }
 CLASSES = {
     "errors": {name: {"__init__": ["self", "part"]} for name in (
@@ -27,6 +34,8 @@ CLASSES = {
     "frames": {"Frame": {"__init__": ["self", "wide", "turns", "squares", "gaps"], "__eq__": ["self", "other"],
                          "times": ["self", "one", "other"], "undone": ["self", "motion"],
                          "power": ["self", "motion", "number"], "product": ["self", "motions"]}},
+    "wholes": {"Whole": {"__init__": ["self", "numbers"]}, "Barred": {"__init__": ["self", "row", "modulus"]}},
+    "returning": {"Back": {"__init__": ["self", "motion", "times"]}, "Away": {"__init__": ["self", "rows"]}},
 }
 
 

@@ -24,6 +24,13 @@ def joined(frame, one, other):
     return (shift, frame.turns[one[1]][other[1]])
 
 
+def undone_of(frame, motion):
+    """A motion of a Frame undone; it is not checked."""
+    shift, turn = motion
+    back = frame.turns[turn].index(0)
+    return (negative(turned(frame.squares[back], added(shift, frame.gaps[turn][back]))), back)
+
+
 class Frame:
     """A frame: its wide, and the products, squares and gaps of its turns."""
 
@@ -53,9 +60,7 @@ class Frame:
         """The motion that times this one, both ways round, is still."""
         if not is_motion_of(self, motion):
             raise BadMotion("motion")
-        shift, turn = motion
-        back = self.turns[turn].index(0)
-        return (negative(turned(self.squares[back], added(shift, self.gaps[turn][back]))), back)
+        return undone_of(self, motion)
 
     def power(self, motion, number):
         """So many of a motion one behind another; below 0, of the motion undone."""

@@ -3,10 +3,11 @@
 import unittest
 from pathlib import Path
 
-from screwsums import (check_returning, checks, errors, faults, frames, motions, named, papers, returning, squares,
-                       wholes)
+from screwsums import (check_returning, check_undone, checks, cut, determinants, errors, faults, frames, motions, named,
+                       papers, returning, squares, sums, tables, undone, wholes)
 
-MODULES = (errors, checks, papers, faults, frames, motions, named, squares, wholes, returning, check_returning)
+MODULES = (errors, checks, papers, faults, frames, motions, named, squares, wholes, returning, check_returning, sums,
+           tables, determinants, undone, check_undone, cut)
 EXAMPLES = Path(__file__).with_name("examples.txt")
 
 
@@ -27,7 +28,7 @@ class ExamplesTest(unittest.TestCase):
         for module in MODULES:
             names.update({name: worth for name, worth in vars(module).items() if not name.startswith("_")})
         told = examples()
-        self.assertEqual(len(told), 36)
+        self.assertEqual(len(told), 74)
         for call, expected in told:
             with self.subTest(call=call):
                 self.check(call, expected, names)

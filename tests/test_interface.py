@@ -23,6 +23,12 @@ FUNCTIONS = {
     "wholes": {"whole": ["rows", "goals"]},
     "returning": {"comes_back": ["frame"], "returns": ["frame", "motion"]},
     "check_returning": {"shows_whole": ["rows", "goals", "value"], "shows_back": ["frame", "value"]},
+    "sums": {"still_sum": ["frame", "by"]},
+    "tables": {"table_of": ["total"]},
+    "determinants": {"determinant": ["total"]},
+    "undone": {"undo": ["total"]},
+    "check_undone": {"shows_undo": ["total", "value"]},
+    "cut": {"cut": ["total"], "cut_right": ["total"]},
 }
 CLASSES = {
     "errors": {name: {"__init__": ["self", "part"]} for name in (
@@ -36,6 +42,12 @@ CLASSES = {
                          "power": ["self", "motion", "number"], "product": ["self", "motions"]}},
     "wholes": {"Whole": {"__init__": ["self", "numbers"]}, "Barred": {"__init__": ["self", "row", "modulus"]}},
     "returning": {"Back": {"__init__": ["self", "motion", "times"]}, "Away": {"__init__": ["self", "rows"]}},
+    "sums": {"Sum": {"__init__": ["self", "frame", "by", "terms"], "__eq__": ["self", "other"],
+                     "plus": ["self", "other"], "less": ["self", "other"], "times": ["self", "other"],
+                     "scaled": ["self", "number"], "flipped": ["self"], "at_turn": ["self", "turn"]}},
+    "undone": {"Undone": {"__init__": ["self", "other"]}, "TwoShifts": {"__init__": ["self", "low", "high"]},
+               "Nought": {"__init__": ["self", "other"]}},
+    "cut": {"Cut": {"__init__": ["self", "other"]}, "Clear": {"__init__": ["self", "shift"]}},
 }
 
 

@@ -29,7 +29,7 @@ def determinant_of(rows, by):
     for row in rows:
         further = {}
         for taken, products in found.items():
-            for column in [column for column in columns if not taken >> column & 1]:
+            for column in [at for at in columns if not taken >> at & 1]:
                 made = further.setdefault(taken | 1 << column, {})
                 add_products(made, products, row[column], _sign(taken, column, len(rows)))
         found = {taken: left_over(numbers, by) for taken, numbers in further.items()}

@@ -10,6 +10,7 @@ from screwsums.named import named
 from screwsums.papers import Denial, Paper
 from screwsums.returning import Away, Back, comes_back, returns
 from screwsums.wholes import Barred, Whole, whole
+from tests.bending import bent_parts
 from tests.lawful import NAMES, NO_FRAMES, NO_INTEGERS, NO_ROWS, cyclic, lawful_frames
 
 BIG = 10 ** 30 - 1
@@ -22,34 +23,6 @@ NO_PAPERS = (None, True, False, 0, 1, "back", "away", "whole", (), [], {}, objec
 
 class Further(Whole):
     """Not made by calling Whole."""
-
-
-def bent(value):
-    """The value, tuples all the way in, bent in one place each; what is no integer any more is never right."""
-    if isinstance(value, tuple):
-        for at in range(len(value)):
-            for further, odd in bent(value[at]):
-                yield value[:at] + (further,) + value[at + 1:], odd
-            yield value[:at] + value[at + 1:], False
-            yield value[:at] + (value[at],) + value[at:], False
-        yield value + (0,), False
-        yield value + (None,), True
-        for other in (None, 0, True, "(1,)", repr(value), {at: value[at] for at in range(len(value))},
-                      Paper("a", *value), b"ab"):
-            yield other, True
-    else:
-        for other in (value + 1, value - 1, -value, 0, 1, value * 2, BIG):
-            yield other, False
-        for other in (True, False, None, str(value), float(value % 1000), (value,), [value], Paper("a", value), {}):
-            yield other, True
-
-
-def bent_parts(paper):
-    """All further parts for the class of this paper, as tuples and as lists."""
-    for parts, odd in bent(paper.parts):
-        if isinstance(parts, tuple) and len(parts) == len(paper.parts):
-            yield parts, odd
-            yield [list(part) if isinstance(part, tuple) else part for part in parts], odd
 
 
 def are_ints(value, many):

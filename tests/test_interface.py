@@ -29,6 +29,12 @@ FUNCTIONS = {
     "undone": {"undo": ["total"]},
     "check_undone": {"shows_undo": ["total", "value"]},
     "cut": {"cut": ["total"], "cut_right": ["total"]},
+    "check_cut": {"shows_cut": ["total", "value"], "shows_cut_right": ["total", "value"]},
+    "heights": {"heights": ["frame"], "height": ["frame", "row", "motion"]},
+    "levels": {"level": ["frame", "row"]},
+    "ladders": {"ladder_of": ["frame"], "sign_of": ["frame", "ladder", "motion"],
+                "ascending": ["frame", "ladder", "motions"]},
+    "check_ladders": {"shows_ladder": ["frame", "value"]},
 }
 CLASSES = {
     "errors": {name: {"__init__": ["self", "part"]} for name in (
@@ -48,6 +54,8 @@ CLASSES = {
     "undone": {"Undone": {"__init__": ["self", "other"]}, "TwoShifts": {"__init__": ["self", "low", "high"]},
                "Nought": {"__init__": ["self", "other"]}},
     "cut": {"Cut": {"__init__": ["self", "other"]}, "Clear": {"__init__": ["self", "shift"]}},
+    "levels": {"Level": {"__init__": ["self", "frame", "shifts", "motions"]}},
+    "ladders": {"Ladder": {"__init__": ["self", "steps"]}, "Stuck": {"__init__": ["self", "steps"]}},
 }
 
 

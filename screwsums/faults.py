@@ -73,7 +73,7 @@ def _fault_of_squares(wide, turns, squares):
     every = range(len(turns))
     for c in every:
         for d in every:
-            if squares_joined(squares[c], squares[d]) != squares[turns[c][d]]:
+            if squares_joined(squares[c], squares[d], wide) != squares[turns[c][d]]:
                 return Fault("squares", (c, d))
     return None
 

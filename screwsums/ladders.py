@@ -44,25 +44,25 @@ def ladder_of(frame):
 
 def sign_of(frame, ladder, motion):
     """The sign of a motion by a ladder: 1, -1, or 0 for the still one."""
-    steps = _steps_of(frame, ladder)
+    steps = steps_of(frame, ladder)
     if not is_motion_of(frame, motion):
         raise BadMotion("motion")
-    return _sign(steps, motion)
+    return sign_by(steps, motion)
 
 
 def ascending(frame, ladder, motions):
     """The motions, each one ahead of all behind it by the ladder."""
-    steps = _steps_of(frame, ladder)
+    steps = steps_of(frame, ladder)
     if not is_lot(frame, motions, 0, MOST_MOTIONS):
         raise BadLot("motions")
     made = []
     for motion in fixed(motions):
-        ahead = [other for other in made if _sign(steps, joined(frame, undone_of(frame, other), motion)) == 1]
+        ahead = [other for other in made if sign_by(steps, joined(frame, undone_of(frame, other), motion)) == 1]
         made.insert(len(ahead), motion)
     return tuple(made)
 
 
-def _steps_of(frame, ladder):
+def steps_of(frame, ladder):
     """The Steps of a ladder of the frame; both are checked."""
     if not isinstance(frame, Frame):
         raise BadFrame("frame")
@@ -75,7 +75,8 @@ def _steps_of(frame, ladder):
     return steps
 
 
-def _sign(steps, motion):
+def sign_by(steps, motion):
+    """The sign of a motion by the Steps of a ladder; it is not checked."""
     told = motion
     for step in steps:
         height = step.height_at(told)

@@ -36,8 +36,10 @@ def unit_square(wide):
     return tuple([tuple([int(row == place) for place in range(wide)]) for row in range(wide)])
 
 
-def squares_joined(one, other):
-    """The square that takes a shift to where one takes what other takes it to."""
-    # Each column of a square is where it takes the shift with a single 1.
-    columns = [turned(one, column) for column in zip(*other)]
-    return tuple(zip(*columns))
+def squares_joined(one, other, wide):
+    """The square that takes a shift of this wide to where one takes what other takes it to.
+
+    Neither needs to have as many rows as there are integers in each.
+    """
+    columns = [[row[place] for row in other] for place in range(wide)]
+    return tuple([turned(columns, row) for row in one])

@@ -35,6 +35,15 @@ FUNCTIONS = {
     "ladders": {"ladder_of": ["frame"], "sign_of": ["frame", "ladder", "motion"],
                 "ascending": ["frame", "ladder", "motions"]},
     "check_ladders": {"shows_ladder": ["frame", "value"]},
+    "signwords": {"sign_words": ["frame", "motions", "most"],
+                  "shows_sign_words": ["frame", "motions", "most", "value"]},
+    "lots": {"meets": ["frame", "one", "other"], "met_once": ["frame", "one", "other"],
+             "ends": ["frame", "ladder", "one", "other"]},
+    "moved": {"moved": ["frame", "starts"], "moved_motion": ["frame", "starts", "motion"],
+              "start_between": ["frame", "other"]},
+    "firstsums": {"first_sums": ["frame"]},
+    "check_moved": {"shows_moved": ["frame", "other", "value"]},
+    "leads": {"merged": ["lead"]},
 }
 CLASSES = {
     "errors": {name: {"__init__": ["self", "part"]} for name in (
@@ -56,6 +65,11 @@ CLASSES = {
     "cut": {"Cut": {"__init__": ["self", "other"]}, "Clear": {"__init__": ["self", "shift"]}},
     "levels": {"Level": {"__init__": ["self", "frame", "shifts", "motions"]}},
     "ladders": {"Ladder": {"__init__": ["self", "steps"]}, "Stuck": {"__init__": ["self", "steps"]}},
+    "signwords": {"Words": {"__init__": ["self", "rows"]}, "Free": {"__init__": ["self", "signs"]}},
+    "moved": {"Moved": {"__init__": ["self", "starts"]}},
+    "leads": {"Lead": {"__init__": ["self", "frame", "other", "square", "motions"], "__eq__": ["self", "other"],
+                       "image": ["self", "motion"], "image_sum": ["self", "total"], "after": ["self", "first"]},
+              "Merged": {"__init__": ["self", "motion"]}, "Unlike": {"__init__": ["self", "back", "times", "rows"]}},
 }
 
 

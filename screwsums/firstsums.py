@@ -18,13 +18,13 @@ def first_sums(frame):
     free = len(heights(frame))
     rows = _forgotten(frame)
     factors = [1] * (frame.wide + frame.many - 1 - free)
-    # Each factor divides k times k, k being how many turns there are. For let some power of a motion
-    # be nothing among the first sums. k of the motion are a shift v there, since k turns are nothing
-    # once the order is forgotten; and each row of the frame makes 0 of v. Any row at all, turned by
-    # each square and added up, is one of the frame: so v, turned by each square and added up, is 0s.
-    # But that is as good as k times v. So it is enough to read the rows by rests of k times k.
+    # Each factor divides the number of turns. For let x_d be (0s, d), and m a motion of turn c. With
+    # the order forgotten, all x_d times m times x_(d c) undone are as many of m as there are turns;
+    # each of them is a shift. These, added up, are a shift h(m), and h goes from products to sums.
+    # If some of m are nothing, that many of h(m) are 0s; so h(m) is, and as many of m as there are
+    # turns are nothing.
     for prime in PRIMES:
-        powers = _powers(rows, frame.wide + frame.many - 1, gcd(frame.many ** 2, prime ** 6))
+        powers = _powers(rows, frame.wide + frame.many - 1, gcd(frame.many, prime ** 3))
         factors = [factor * power for factor, power in zip(factors, powers)]
     return (free, tuple([factor for factor in factors if factor > 1]))
 

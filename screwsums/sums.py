@@ -27,7 +27,7 @@ class Sum:
             numbers[at] = numbers.get(at, 0) + number
         self.frame = frame
         self.by = by
-        self.terms = _terms_of(by, numbers)
+        self.terms = terms_of(by, numbers)
 
     def __eq__(self, other):
         return (type(self) is type(other) and self.frame == other.frame and self.by == other.by
@@ -91,7 +91,8 @@ def _is_term(frame, value):
     return is_motion_of(frame, value[0]) and is_integer(value[1])
 
 
-def _terms_of(by, numbers):
+def terms_of(by, numbers):
+    """The terms, by turn, that the numbers of motions are by a prime."""
     left = left_over(numbers, by)
     by_turn = sorted(left, key=lambda motion: (motion[1], motion[0]))
     return tuple([(motion, left[motion]) for motion in by_turn])
@@ -118,7 +119,7 @@ def sum_of(frame, by, numbers):
     """The Sum of the numbers of motions; neither they nor how many they are is checked."""
     # More terms may come of other sums than may be told.
     made = Sum(frame, by, ())
-    made.terms = _terms_of(by, numbers)
+    made.terms = terms_of(by, numbers)
     return made
 
 

@@ -3,13 +3,15 @@
 import unittest
 from pathlib import Path
 
-from screwsums import (check_cut, check_ladders, check_moved, check_returning, check_undone, checks, cut, determinants,
-                       errors, faults, firstsums, frames, heights, ladders, leads, levels, lots, motions, moved, named,
-                       papers, returning, signwords, squares, sums, tables, undone, wholes)
+from screwsums import (check_cut, check_ladders, check_leads, check_moved, check_rests, check_returning, check_undone,
+                       checks, cut, determinants, errors, faults, firstsums, frames, heights, ladders, leads, levels,
+                       lots, motions, moved, named, papers, rests, returning, screws, shaped, signwords, squares, sums,
+                       tables, undone, undonerests, wholes)
 
 MODULES = (errors, checks, papers, faults, frames, motions, named, squares, wholes, returning, check_returning, sums,
            tables, determinants, undone, check_undone, cut, check_cut, heights, levels, ladders, check_ladders,
-           signwords, lots, moved, firstsums, check_moved, leads)
+           signwords, lots, moved, firstsums, check_moved, leads, check_leads, screws, shaped, rests, undonerests,
+           check_rests)
 EXAMPLES = Path(__file__).with_name("examples.txt")
 
 
@@ -30,7 +32,7 @@ class ExamplesTest(unittest.TestCase):
         for module in MODULES:
             names.update({name: worth for name, worth in vars(module).items() if not name.startswith("_")})
         told = examples()
-        self.assertEqual(len(told), 136)
+        self.assertEqual(len(told), 170)
         for call, expected in told:
             with self.subTest(call=call):
                 self.check(call, expected, names)

@@ -44,6 +44,13 @@ FUNCTIONS = {
     "firstsums": {"first_sums": ["frame"]},
     "check_moved": {"shows_moved": ["frame", "other", "value"]},
     "leads": {"merged": ["lead"]},
+    "check_leads": {"shows_merged": ["lead", "value"]},
+    "screws": {"two_screws": [], "led_screws": ["first", "second"]},
+    "shaped": {"shaped": ["heads"], "lack": ["heads"], "heads_fit": ["heads"], "contrary": ["total"],
+               "powers": ["by", "many"]},
+    "rests": {"rests_of": ["total", "rest"]},
+    "undonerests": {"undo_rests": ["total", "rest"]},
+    "check_rests": {"shows_undo_rests": ["total", "rest", "value"]},
 }
 CLASSES = {
     "errors": {name: {"__init__": ["self", "part"]} for name in (
@@ -70,6 +77,7 @@ CLASSES = {
     "leads": {"Lead": {"__init__": ["self", "frame", "other", "square", "motions"], "__eq__": ["self", "other"],
                        "image": ["self", "motion"], "image_sum": ["self", "total"], "after": ["self", "first"]},
               "Merged": {"__init__": ["self", "motion"]}, "Unlike": {"__init__": ["self", "back", "times", "rows"]}},
+    "undonerests": {"UndoneRests": {"__init__": ["self", "terms"]}, "NoughtRests": {"__init__": ["self", "terms"]}},
 }
 
 
